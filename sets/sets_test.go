@@ -1,0 +1,35 @@
+package sets_test
+
+import (
+	"slices"
+	"testing"
+
+	"panache/sets"
+)
+
+func TestMembers(t *testing.T) {
+	for i, c := range []struct {
+		set  int
+		want []int
+	}{
+		{0, nil}, {1, []int{0}}, {2, []int{1}}, {13, []int{0, 2, 3}}, {255, []int{0, 1, 2, 3, 4, 5, 6, 7}}, {1<<62 + 1<<31, []int{31, 62}}, {-1 << 63, []int{63}},
+	} {
+		if l := sets.Members(c.set); !slices.Equal(l, c.want) {
+			t.Error(i, l)
+		}
+	}
+}
+
+func TestFewer(t *testing.T) {
+	ascending := [][]int{nil, {0}, {7}, {0, 1}, {0, 7}, {1, 2}, {0, 1, 2}}
+	for i, a := range ascending {
+		for k, b := range ascending {
+			if n := sets.Fewer(a, b); (n < 0) != (i < k) || (n > 0) != (i > k) {
+				t.Error(a, b, n)
+			}
+		}
+	}
+	if sets.Fewer(nil, []int{}) != 0 {
+		t.Error("nil and empty")
+	}
+}
