@@ -4,6 +4,7 @@ import (
 	"math/bits"
 
 	"panache/api"
+	"panache/sets"
 )
 
 const (
@@ -60,13 +61,7 @@ func (z size) bitsOf(set cells) []int {
 func (c cells) many() int { return bits.OnesCount64(uint64(c)) }
 
 // each yields the cells, ascending.
-func (c cells) each(yield func(cell int) bool) {
-	for left := c; left != 0; left &= left - 1 {
-		if !yield(bits.TrailingZeros64(uint64(left))) {
-			return
-		}
-	}
-}
+func (c cells) each(yield func(cell int) bool) { sets.Each(int(c))(yield) }
 
 // read returns what is seen in rows.
 func read(rows []string) view {

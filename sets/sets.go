@@ -3,17 +3,25 @@ package sets
 
 import (
 	"cmp"
+	"iter"
 	"math/bits"
 	"slices"
 )
 
+// Each yields the numbers of a set, ascending.
+func Each(set int) iter.Seq[int] {
+	return func(yield func(int) bool) {
+		for left := uint(set); left != 0; left &= left - 1 {
+			if !yield(bits.TrailingZeros(left)) {
+				return
+			}
+		}
+	}
+}
+
 // Members returns the numbers of a set, ascending.
 func Members(set int) []int {
-	var l []int
-	for left := uint(set); left != 0; left &= left - 1 {
-		l = append(l, bits.TrailingZeros(left))
-	}
-	return l
+	return slices.Collect(Each(set))
 }
 
 // Fewer compares lists: first by how long they are, then by their elements.

@@ -20,6 +20,27 @@ func TestMembers(t *testing.T) {
 	}
 }
 
+func TestEach(t *testing.T) {
+	for _, stop := range []int{0, 2, 3, 9} {
+		var l []int
+		for n := range sets.Each(13) {
+			l = append(l, n)
+			if n >= stop {
+				break
+			}
+		}
+		var want []int
+		for _, n := range []int{0, 2, 3} {
+			if n <= stop {
+				want = append(want, n)
+			}
+		}
+		if !slices.Equal(l, want) {
+			t.Error(stop, l)
+		}
+	}
+}
+
 func TestFewer(t *testing.T) {
 	ascending := [][]int{nil, {0}, {7}, {0, 1}, {0, 7}, {1, 2}, {0, 1, 2}}
 	for i, a := range ascending {
