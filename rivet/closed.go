@@ -29,9 +29,7 @@ func thickOf(s api.RivetStick) api.Span { return s.Thick }
 func together(l []api.RivetStick, of func(s api.RivetStick) api.Span) api.Span {
 	var all api.Span
 	for _, s := range l {
-		one := of(s)
-		all.Low += one.Low
-		all.High += one.High
+		all = span.Sum(all, of(s))
 	}
 	return all
 }

@@ -1,4 +1,4 @@
-// Package span has what every layer asks about numbers and spans before it uses them.
+// Package span has what layers ask about numbers and spans.
 package span
 
 import "panache/api"
@@ -21,4 +21,14 @@ func Valid(low, high int, spans ...api.Span) bool {
 		}
 	}
 	return true
+}
+
+// Sum returns all that numbers of some spans, one of each, can come to.
+func Sum(spans ...api.Span) api.Span {
+	var all api.Span
+	for _, s := range spans {
+		all.Low += s.Low
+		all.High += s.High
+	}
+	return all
 }

@@ -38,3 +38,16 @@ func TestValid(t *testing.T) {
 		}
 	}
 }
+
+func TestSum(t *testing.T) {
+	for i, c := range []struct {
+		spans []api.Span
+		want  api.Span
+	}{
+		{nil, api.Span{}}, {[]api.Span{{Low: 3, High: 5}}, api.Span{Low: 3, High: 5}}, {[]api.Span{{Low: 3, High: 5}, {Low: 4, High: 4}, {Low: -9, High: 1}}, api.Span{Low: -2, High: 10}},
+	} {
+		if got := Sum(c.spans...); got != c.want {
+			t.Error(i, got)
+		}
+	}
+}
