@@ -1,8 +1,6 @@
 package lattice
 
 import (
-	"math/bits"
-
 	"panache/api"
 	"panache/sets"
 	"panache/span"
@@ -63,15 +61,7 @@ func (l lattice) fewest(z size) []api.LatticeShift {
 
 // cover returns the numbers of the fewest sets that have all cells together: of several such lists the smallest one, nil if there is none.
 func cover(l []cells, all cells) []int {
-	var fewest []int
-	for set := range 1 << len(l) {
-		if fewest != nil && bits.OnesCount(uint(set)) > len(fewest) || union(l, set) != all {
-			continue
-		}
-		if numbers := sets.Members(set); fewest == nil || sets.Fewer(numbers, fewest) < 0 {
-			fewest = numbers
-		}
-	}
+	fewest, _ := sets.Fewest(len(l), func(set int) bool { return union(l, set) == all })
 	return fewest
 }
 

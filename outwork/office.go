@@ -148,14 +148,9 @@ func (o office) showing(entry, count int) office {
 // fewestWrong returns the fewest entries that must be free so that there is a truth: of several such lists the smallest one.
 func (o office) fewestWrong() []int {
 	// With all of them free there is one, in which nothing was brought back and no fans were made.
-	all := 1<<len(o.book) - 1
-	fewest := sets.Members(all)
-	for set := range all {
-		free := func(entry int) bool { return set&(1<<entry) != 0 }
-		if l := sets.Members(set); sets.Fewer(l, fewest) < 0 && o.freeing(free).hasTruth() {
-			fewest = l
-		}
-	}
+	fewest, _ := sets.Fewest(len(o.book), func(set int) bool {
+		return o.freeing(func(entry int) bool { return set&(1<<entry) != 0 }).hasTruth()
+	})
 	return fewest
 }
 

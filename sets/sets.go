@@ -28,3 +28,16 @@ func Members(set int) []int {
 func Fewer(a, b []int) int {
 	return cmp.Or(cmp.Compare(len(a), len(b)), slices.Compare(a, b))
 }
+
+// Fewest returns the fewest of so many numbers, from 0 on, that are enough together: of several such lists the smallest one. It looks at all sets, so found is false only if none is enough.
+func Fewest(many int, enough func(set int) bool) (fewest []int, found bool) {
+	for set := range 1 << many {
+		if found && bits.OnesCount(uint(set)) > len(fewest) || !enough(set) {
+			continue
+		}
+		if l := Members(set); !found || Fewer(l, fewest) < 0 {
+			fewest, found = l, true
+		}
+	}
+	return fewest, found
+}

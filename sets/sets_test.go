@@ -54,3 +54,21 @@ func TestFewer(t *testing.T) {
 		t.Error("nil and empty")
 	}
 }
+
+func TestFewest(t *testing.T) {
+	for i, c := range []struct {
+		many   int
+		enough []int // sets
+		want   []int
+		found  bool
+	}{
+		{0, nil, nil, false}, {0, []int{0}, nil, true}, {3, nil, nil, false}, {3, []int{7, 0}, nil, true}, {3, []int{7}, []int{0, 1, 2}, true},
+		{4, []int{6, 9}, []int{0, 3}, true}, {4, []int{5, 6, 9, 12}, []int{0, 2}, true}, {4, []int{7, 12}, []int{2, 3}, true}, {4, []int{8, 7, 4, 3}, []int{2}, true}, {4, []int{3, 8}, []int{3}, true}, {4, []int{13, 14, 15}, []int{0, 2, 3}, true},
+		{4, []int{16, 31}, nil, false}, // of other numbers
+	} {
+		l, found := sets.Fewest(c.many, func(set int) bool { return slices.Contains(c.enough, set) })
+		if !slices.Equal(l, c.want) || found != c.found {
+			t.Error(i, l, found)
+		}
+	}
+}
