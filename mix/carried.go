@@ -19,16 +19,11 @@ func (s sums) plus(held ...api.Span) sums {
 // meet reports whether each sum can be a number of the span of its stuff.
 func (s sums) meet(held ...api.Span) bool {
 	for stuff, h := range held {
-		if both := common(s[stuff], h); both.Low > both.High {
+		if both := span.Common(s[stuff], h); both.Low > both.High {
 			return false
 		}
 	}
 	return true
-}
-
-// common returns the numbers that two spans have both. If there are none, its Low is above its High.
-func common(a, b api.Span) api.Span {
-	return api.Span{Low: max(a.Low, b.Low), High: min(a.High, b.High)}
 }
 
 // carried is what a carrier has: so many boxes, and what can be in them together.

@@ -122,7 +122,7 @@ func (l load) short() []api.Span {
 func (l load) share(carrier, stuff int) api.Span {
 	all := api.Span{Low: api.MaxMixBill, High: 0}
 	for _, has := range l.ways {
-		s := common(has[carrier].sums[stuff], l.Bills[carrier].Held[stuff])
+		s := span.Common(has[carrier].sums[stuff], l.Bills[carrier].Held[stuff])
 		all = api.Span{Low: min(all.Low, s.Low), High: max(all.High, s.High)}
 	}
 	return all

@@ -32,3 +32,8 @@ func Sum(spans ...api.Span) api.Span {
 	}
 	return all
 }
+
+// Common returns the numbers that two spans have both. If there are none, its Low is above its High.
+func Common(a, b api.Span) api.Span {
+	return api.Span{Low: max(a.Low, b.Low), High: min(a.High, b.High)}
+}

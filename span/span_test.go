@@ -51,3 +51,13 @@ func TestSum(t *testing.T) {
 		}
 	}
 }
+
+func TestCommon(t *testing.T) {
+	for i, c := range []struct{ a, b, want api.Span }{
+		{api.Span{Low: 1, High: 5}, api.Span{Low: 3, High: 9}, api.Span{Low: 3, High: 5}}, {api.Span{Low: -4, High: 9}, api.Span{Low: 1, High: 2}, api.Span{Low: 1, High: 2}}, {api.Span{Low: 1, High: 5}, api.Span{Low: 5, High: 6}, api.Span{Low: 5, High: 5}}, {api.Span{Low: 1, High: 5}, api.Span{Low: 8, High: 9}, api.Span{Low: 8, High: 5}},
+	} {
+		if a, b := Common(c.a, c.b), Common(c.b, c.a); a != c.want || b != c.want {
+			t.Error(i, a, b)
+		}
+	}
+}
